@@ -1,0 +1,1 @@
+"""A hotel's desk: stays, offers, and the nights' prices."""
