@@ -1,1 +1,1 @@
-"""A hotel's desk: stays, offers, and the nights' prices."""
+"""A hotel's desk: stays and their rooms, offers, and the nights' prices."""

@@ -33,3 +33,19 @@ def fits(free, stay):
 def first_full(free, stay):
     """The first of the stay's nights on which no room's free. There must be one."""
     return free.index(0, stay.start)
+
+
+def free_in_a_row(free, night):
+    """How many nights in a row, from this one on, have a room free each."""
+    end = night
+    while end < len(free) and free[end] > 0:
+        end += 1
+    return end - night
+
+
+def first_in_a_row(free, how_many, start):
+    """The first night, from start on, that begins so many in a row with a room free each. None: there's no such."""
+    for night in range(start, len(free)):
+        if free_in_a_row(free, night) >= how_many:
+            return night
+    return None

@@ -3,28 +3,37 @@
 import random
 import unittest
 
-from tests.helper import (CHOOSE, LARGEST, PRICES, SlowDesk, ask, begin, book, cancel, change, offer,
-                          withdraw)
+from tests.helper import (CHOOSE, INCOME, LARGEST, PRICES, ROOMS, SETTLE, SlowDesk, ask, begin, book, cancel, change,
+                          first, free, night, offer, told, until, withdraw)
+
+
+def mostly(chance, usual, edges):
+    """One of the usual values, now and then one of the edges."""
+    return chance.choice(usual) if chance.random() < 0.93 else chance.choice(edges)
 
 
 def some_price(chance):
-    return chance.choice([0, 1, 1, 2, 3, 4, 5, chance.randint(1, 1000000), 1000000, 1000001, LARGEST])
+    return mostly(chance, [1, 2, 3, 4, 5, chance.randint(1, 1000000)], [0, 1000000, 1000001, LARGEST])
 
 
 def some_span(chance, nights):
     """Mostly a stay's nights, now and then not."""
-    start = chance.randint(0, nights)
-    end = min(start + chance.randint(0, nights), nights + chance.randint(0, 1))
-    return (start, end) if chance.random() < 0.97 else (chance.choice([0, LARGEST]), chance.choice([0, LARGEST]))
+    start = chance.randint(0, nights - 1)
+    end = chance.randint(start + 1, nights)
+    return mostly(chance, [(start, end)], [(start, start), (end, start), (start, nights + 1), (0, LARGEST),
+                                           (LARGEST, LARGEST), (LARGEST, 0)])
 
 
 def some_call(chance, nights):
     start, end = some_span(chance, nights)
-    stay = chance.choice([chance.randint(0, 12), chance.randint(0, 45), LARGEST])
-    kind = chance.choice("bbbbbccceeeooooowhp")
+    stay = mostly(chance, [chance.randint(0, 5), chance.randint(0, 15)], [chance.randint(0, 45), LARGEST])
+    n = mostly(chance, range(nights), [nights, nights + 1, LARGEST])
+    how_many = mostly(chance, range(1, nights + 1), [0, nights + 1, LARGEST])
+    kind = chance.choice("bbbbbbbbcceeeoooooooooowhhppsrrrnnnffiiiiuuttta")
     return {"b": book(start, end, some_price(chance)), "c": cancel(stay), "e": change(stay, start, end),
-            "o": offer(start, end, some_price(chance)), "w": withdraw(chance.randint(0, 11)), "h": CHOOSE,
-            "p": PRICES}[kind]
+            "o": offer(start, end, some_price(chance)), "w": withdraw(chance.randint(0, 5)), "h": CHOOSE,
+            "p": PRICES, "s": SETTLE, "r": ROOMS, "n": night(n), "f": free(n), "i": first(how_many, n),
+            "u": until(n), "t": told(stay), "a": INCOME}[kind]
 
 
 def some_calls(chance, how_many):
@@ -42,7 +51,7 @@ def some_calls(chance, how_many):
 class AgainstSlowDesk(unittest.TestCase):
     def test_the_same_answers(self):
         for turn in range(120):
-            calls = some_calls(random.Random(turn), 60)
+            calls = some_calls(random.Random(turn), 120)
             slow = SlowDesk()
             self.assertEqual(ask(*calls), [slow.ask(call) for call in calls], turn)
 
@@ -57,7 +66,24 @@ class AgainstSlowDesk(unittest.TestCase):
             for made in range(10):
                 start = chance.randint(0, nights - 1)
                 calls.append(offer(start, chance.randint(start + 1, nights), chance.randint(1, 6)))
-            calls += [CHOOSE, PRICES]
+            calls += [CHOOSE, PRICES, SETTLE, ROOMS, INCOME] + [night(n) for n in range(nights)] + [CHOOSE, PRICES]
+            slow = SlowDesk()
+            self.assertEqual(ask(*calls), [slow.ask(call) for call in calls], turn)
+
+    def test_40_stays_booked_settled_changed_and_cancelled(self):
+        for turn in range(40):
+            chance = random.Random(2000 + turn)
+            nights = chance.randint(20, 60)
+            calls = [begin(chance.randint(2, 8), nights)]
+            for made in range(130):
+                start = chance.randint(0, nights - 1)
+                end = min(nights, start + chance.randint(1, 12))
+                calls.append(chance.choice([book(start, end, made), book(start, end, made), offer(start, end, made + 1),
+                                            change(chance.randint(0, 30), start, end), cancel(chance.randint(0, 30)),
+                                            SETTLE]))
+                if made % 5 == 0:
+                    calls += [ROOMS, INCOME, first(chance.randint(1, 9), start), night(start)]
+            calls += [night(n) for n in range(nights)]
             slow = SlowDesk()
             self.assertEqual(ask(*calls), [slow.ask(call) for call in calls], turn)
 

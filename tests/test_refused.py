@@ -2,7 +2,8 @@
 
 import unittest
 
-from tests.helper import CHOOSE, LARGEST, PRICES, ask, begin, book, cancel, change, last, offer, withdraw
+from tests.helper import (CHOOSE, FIFTEEN, FIFTEEN_WRONG, LARGEST, PRICES, SETTLE, ask, begin, book, cancel, change,
+                          everything, first, free, last, night, offer, told, until, withdraw)
 
 # Stay 2 is cancelled and offer 1 is withdrawn.
 BUSY = [begin(2, 5), book(0, 3), book(1, 4), book(0, 5), book(4, 5), cancel(2), book(3, 5), offer(0, 2, 6),
@@ -13,7 +14,7 @@ OFFERS_USED = [begin(1, 4), book(0, 1)] + [offer(n % 4, 4, n + 1) for n in range
 
 def seen(calls):
     """All that later calls show of the desk: each look is at a desk that's come to be anew."""
-    looks = [[CHOOSE, PRICES], [book(0, 61)], [offer(0, 1, 1), offer(0, 1, 1), CHOOSE]]
+    looks = [everything(), [SETTLE] + everything(), [book(0, 61)], [offer(0, 1, 1), offer(0, 1, 1), CHOOSE]]
     looks += [[book(night, night + 1)] * 9 for night in range(60)]
     looks += [[cancel(stay), book(0, 1)] for stay in range(41)]
     looks += [[cancel(stay), offer(0, 4, 1000), CHOOSE, PRICES] for stay in range(41)]
@@ -59,8 +60,29 @@ class Refused(unittest.TestCase):
         for number in (1, 4, LARGEST):
             self.refuses(BUSY, withdraw(number), (-3, []))
 
+    def test_settle(self):
+        self.refuses(STAYS_USED + [offer(50, 60, 9)], SETTLE, (-9, []))
+        self.refuses(STAYS_USED + [withdraw(0), offer(3, 4, 9), offer(0, 1, 3)], SETTLE, (-9, []))
+
+    def test_night_free_until(self):
+        for call in (night, free, until):
+            for n in (5, 6, LARGEST):
+                self.refuses(BUSY, call(n), (-1, []))
+
+    def test_first(self):
+        for start in (0, 4, 5, LARGEST):
+            self.refuses(BUSY, first(0, start), (-1, []))
+        for call in (first(2, 0), first(2, 4), first(1, 5), first(LARGEST, 0), first(1, LARGEST),
+                     first(LARGEST, LARGEST)):
+            self.refuses(BUSY, call, (-5, []))
+
+    def test_told(self):
+        for stay in (2, 5, LARGEST):
+            self.refuses(BUSY, told(stay), (-3, []))
+
     def test_before_it_is_begun(self):
-        for call in (book(0, 1), cancel(0), change(0, 0, 1), offer(0, 1, 1), withdraw(0), CHOOSE, PRICES):
+        for call in FIFTEEN + FIFTEEN_WRONG:
+            self.assertEqual(last(call), (-2, []), call)
             self.assertEqual(seen([call]), seen([]))
             self.assertEqual(seen([call, begin(2, 4)]), seen([begin(2, 4)]))
 

@@ -2,8 +2,8 @@
 
 import unittest
 
-from roomdesk.desk import Desk, answer_to
-from tests.helper import CHOOSE, LARGEST, PRICES, ask, begin, book, cancel, change, last, number, offer, withdraw
+from tests.helper import (CHOOSE, FIFTEEN, FIFTEEN_WRONG, LARGEST, PRICES, SETTLE, ask, begin, book, cancel, change,
+                          everything, last, number, offer, told, withdraw)
 
 
 class Begin(unittest.TestCase):
@@ -28,22 +28,33 @@ class Begin(unittest.TestCase):
                 self.assertEqual(taken[-1], (0, [0] * nights))
 
     def test_before_it_is_begun_all_others_are_refused(self):
-        calls = [book(0, 1), cancel(0), change(0, 0, 1), offer(0, 1, 1), withdraw(0), CHOOSE, PRICES]
-        self.assertEqual(ask(*calls), [number(-2)] * 7)
+        self.assertEqual([call[0] for call in FIFTEEN], list(range(2, 17)))
+        self.assertEqual(ask(*FIFTEEN), [number(-2)] * 15)
 
     def test_not_begun_is_told_before_all_other_refusals(self):
-        calls = [book(1, 1, LARGEST), cancel(LARGEST), change(9, 3, 3), offer(1, 1, 0), withdraw(LARGEST)]
-        self.assertEqual(ask(*calls), [number(-2)] * 5)
+        self.assertEqual(ask(*FIFTEEN_WRONG), [number(-2)] * 15)
 
     def test_a_refused_begin_begins_nothing(self):
         self.assertEqual(ask(begin(0, 1), book(0, 1), begin(9, 1), CHOOSE, begin(1, 61), PRICES),
                          [number(-1), number(-2)] * 3)
+        self.assertEqual(ask(begin(9, 61), *FIFTEEN)[1:], [number(-2)] * 15)
 
     def test_a_new_desk_in_the_place_of_one_that_is_there(self):
         before = [begin(1, 3), book(0, 3), offer(0, 1, 5)]
         after = ask(*before, begin(2, 4), cancel(0), withdraw(0), CHOOSE, PRICES, book(3, 4), offer(3, 4, 7), CHOOSE)
         self.assertEqual(after[3:], [number(0), number(-3), number(-3), number(0), (0, [0] * 4), number(0), number(0),
                                      (7, [0])])
+
+    def test_nothing_of_the_former_desk_is_left_in_any_call(self):
+        formers = [[begin(3, 6), book(0, 6, 9), book(1, 2), book(0, 3), cancel(1), offer(0, 6, 7), offer(1, 2, 8)],
+                   [begin(1, 60)] + [book(n, n + 1) for n in range(40)] + [offer(50, 60, 7)] * 10,
+                   [begin(8, 1)] + [offer(0, 1, 4)] * 3 + [SETTLE, offer(0, 1, 2), withdraw(0)]]
+        looks = [[call] for call in FIFTEEN + FIFTEEN_WRONG] + [FIFTEEN, list(reversed(FIFTEEN)), everything()]
+        looks += [[book(n, n + 1) for n in range(3)] * 14]
+        looks += [[offer(0, 3, 1)] * 11 + [CHOOSE, PRICES, SETTLE] + everything()]
+        for former in formers:
+            for look in looks:
+                self.assertEqual(ask(*former, begin(2, 3), *look)[len(former):], ask(begin(2, 3), *look), look)
 
     def test_a_new_desk_has_all_its_numbers_again(self):
         used = [call for stay in range(40) for call in (book(0, 1), cancel(stay))] + [offer(0, 1, 1)] * 10
@@ -176,10 +187,8 @@ class Change(unittest.TestCase):
         self.assertEqual(last(begin(1, 3), book(0, 1), change(0, 1, 2), change(0, 2, 3), book(0, 1)), number(1))
 
     def test_its_price_is_as_it_was(self):
-        desk = Desk()
-        for call in (begin(1, 3), book(0, 1, 77), change(0, 1, 3), change(0, 0, 4)):
-            answer_to(desk, call[0], call[1:])
-        self.assertEqual((desk.stays[0].start, desk.stays[0].end, desk.stays[0].price), (1, 3, 77))
+        changed = ask(begin(1, 3), book(0, 1, 77), change(0, 1, 3), told(0), change(0, 0, 4), told(0))
+        self.assertEqual(changed[2:], [number(0), (0, [1, 3, 77]), number(-1), (0, [1, 3, 77])])
 
 
 if __name__ == "__main__":
